@@ -1,0 +1,1 @@
+"""Whensure: exact times from clocks that may be wrong."""

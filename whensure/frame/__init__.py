@@ -1,0 +1,1 @@
+"""Frames: which devices, clocks, links and sources there are, and their texts."""
