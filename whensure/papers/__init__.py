@@ -1,0 +1,1 @@
+"""Papers, which show what is returned about two events."""

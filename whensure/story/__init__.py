@@ -1,0 +1,1 @@
+"""What happens: events, letters and views, and their texts."""
