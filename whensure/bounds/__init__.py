@@ -1,0 +1,1 @@
+"""Points of time, and the bounds between them that events imply."""

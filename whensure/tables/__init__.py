@@ -1,0 +1,1 @@
+"""Tables of the distances between points."""
