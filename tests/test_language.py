@@ -198,6 +198,19 @@ class LanguageTest(unittest.TestCase):
             if isinstance(node.ctx, ast.Load):
                 self.assertIn(node.attr, METHODS | self.own_methods | stored, where)
 
+    def test_no_attribute_has_the_name_of_a_method(self):
+        stored = {node.attr for _, node in self.nodes(ast.Attribute) if not isinstance(node.ctx, ast.Load)}
+        self.assertEqual(stored & self.own_methods, set())
+
+    def test_no_name_belongs_to_a_property_and_to_a_method(self):
+        properties, methods = set(), set()
+        for _, group in self.nodes(ast.ClassDef):
+            for item in group.body:
+                if isinstance(item, ast.FunctionDef):
+                    (properties if item.decorator_list else methods).add(item.name)
+        self.assertEqual(properties & methods, set())
+        self.assertEqual(properties & OF_BUILTINS, set())
+
     def test_values(self):
         for where, node in self.nodes(ast.Constant):
             self.assertNotIsInstance(node.value, (float, complex), where)

@@ -74,6 +74,12 @@ def hand_after(frame, record, clock, place, hand):
     return ((device, number, clock), shown, hand[2])
 
 
+def hands_after(frame, record, hands):
+    """Return the list of the hands of the device's clocks after a record; hands are those before it."""
+    clocks = frame.clocks_of(record[0])
+    return [hand_after(frame, record, clock, place, hands[place]) for place, clock in enumerate(clocks)]
+
+
 def mark_bounds(frame, here, deed):
     """Return the bounds of an event that follow from what a source says."""
     _, source, kind, said = deed
@@ -105,15 +111,13 @@ def event_bounds(frame, record, hands, kind):
     here = event_point((device, number))
     deed = event[3]
     bounds = [at_least_later(event_point((device, number - 1)), here, 0, NO_PART)]
-    hands_after = []
     for place, clock in enumerate(frame.clocks_of(device)):
         bounds.extend(clock_bounds(frame, record, clock, place, hands[place]))
-        hands_after.append(hand_after(frame, record, clock, place, hands[place]))
     if deed[0] == "mark":
         bounds.extend(mark_bounds(frame, here, deed))
     elif deed[0] == "hear":
         bounds.extend(hear_bounds(frame, here, deed, kind))
-    return bounds, hands_after
+    return bounds, hands_after(frame, record, hands)
 
 
 def heard_kind(frame, view, deed):

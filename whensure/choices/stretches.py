@@ -43,3 +43,13 @@ def is_within(stretch, number):
 def holds_number(stretches, number):
     """Return True if the number is in one of the stretches."""
     return any([is_within(stretch, number) for stretch in stretches])
+
+
+def least_of(stretches):
+    """Return the least number of joined stretches; None if there is none."""
+    return stretches[0][0] if stretches else None
+
+
+def greatest_of(stretches):
+    """Return the greatest number of joined stretches; None if there is none."""
+    return stretches[-1][1] if stretches else None

@@ -1,0 +1,1 @@
+"""What a device knows of all devices, and what it tells others of it."""
