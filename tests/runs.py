@@ -6,6 +6,7 @@ from whensure.bounds.points import event_point
 from whensure.choices.choices import all_choices, possible_tables
 from whensure.choices.stretches import join_stretches, stretch_of
 from whensure.errors import CannotBeHeard, InvalidPromise, NoGreatestTime, TooManyPins, TooManyUnderWay
+from whensure.frame.frame import Frame
 from whensure.watch.watch import Watch
 
 
@@ -135,6 +136,31 @@ class Run(World):
     def difference(self, first, second):
         """Return by how much the second event truly is later than the first one."""
         return self.instants[event_point(second)] - self.instants[event_point(first)]
+
+
+def lively_frame(chance):
+    """Return a frame of devices in a row that have a clock each, quick links, and sources at both ends."""
+    many = chance.randint(2, 3)
+    ways = [(0, 1), (1, 0), (1, 2), (2, 1)][:2 * many - 2]
+    return Frame(
+        [f"d{at}" for at in range(many)],
+        [(f"c{at}", at, chance.random() < 0.5, (("k", 2, 3),)) for at in range(many)],
+        [(f"l{at}", *way, (("k", 0, 4),)) for at, way in enumerate(ways)],
+        [(f"s{at}", at, (("k", 1, 1),)) for at in (0, many - 1)],
+        chance.randint(0, 1),
+    )
+
+
+class LivelyRun(Run):
+    """A run with few deeds that make clocks less known."""
+
+    sleepiness = 0.05
+
+    def deeds(self, device):
+        """Return the deeds that the device can try now."""
+        found = super().deeds(device)
+        rare = ("anew", "kind", "set", "pin", "unpin", "promise")
+        return [deed for deed in found if deed[0] not in rare or self.chance.random() < 0.1]
 
 
 def answers_of(watch):

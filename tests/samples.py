@@ -3,6 +3,7 @@
 import random
 
 from whensure.frame.frame import Frame
+from whensure.story.events import first_view
 
 WORDS_OF_THE_TABLE = [
     "device", "clock", "of", "goes", "on", "asleep", "link", "from", "to", "source", "at", "kind", "none", "faults",
@@ -42,6 +43,15 @@ def full_frame():
         [("s", 1, (("good", 2, 0),))],
         1,
     )
+
+
+def mark_view(*values, faults=0, sources=1):
+    """Return a frame with sources at one device that can be late by 2, and a view in which they say these values."""
+    frame = Frame(["a"], [], [], [(f"s{at}", 0, (("k", 0, 2),)) for at in range(sources)], faults)
+    view = first_view(frame)
+    for number, (source, value) in enumerate(values, start=2):
+        view[0].append((False, (), (), ("mark", source, 0, value), (number,)))
+    return frame, view
 
 
 def fields_of(frame):

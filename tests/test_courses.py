@@ -52,7 +52,8 @@ class ViewPointsTest(unittest.TestCase):
         view[1].append((False, (6,), (6,), ("kind", 0, 0), (3, 4)))
         view[1].append((False, (6,), (6,), ("note",), (3, 5)))
         view[1].append((False, (5,), (5,), ("note",), (3, 6)))
-        self.assertEqual([point for point in view_points(frame, view) if point[2] == 0], [(1, 1, 0), (1, 2, 0), (1, 5, 0)])
+        ticks = [point for point in view_points(frame, view) if point[2] == 0]
+        self.assertEqual(ticks, [(1, 1, 0), (1, 2, 0), (1, 5, 0)])
 
     def test_the_order_of_the_bounds(self):
         frame = Frame(["a"], [("c", 0, False, (("k", 1, 2),)), ("d", 0, False, (("k", 1, 2),))], [], [], 0)

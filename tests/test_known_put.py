@@ -31,7 +31,9 @@ class EveryDeedTest(unittest.TestCase):
     def test_hands_of_each_device(self):
         known = three_known()
         hands = first_hands(three_frame(), 1)
-        for deed, numbers in [(("note",), (3, 4)), (("kind", 2, 1), (3, 5)), (("note",), (4, 5)), (("anew", (0, 0)), (4, 9))]:
+        for deed, numbers in [
+            (("note",), (3, 4)), (("kind", 2, 1), (3, 5)), (("note",), (4, 5)), (("anew", (0, 0)), (4, 9)),
+        ]:
             record = (1, known.counts[1], (False, numbers, numbers, deed, known.expected(1, deed)))
             _, hands = event_bounds(three_frame(), record, hands, None)
             known.put_record(record)

@@ -187,7 +187,8 @@ class DrawnTest(unittest.TestCase):
             watch, view, shown = Watch(frame, 0), first_view(frame), [0] * many
             for _ in range(chance.randint(0, 4)):
                 shown = [number + chance.randint(0, 2) for number in shown]
-                deed = chance.choice([("note",), ("kind", chance.randrange(many), chance.randint(0, 1)), ("mark", 0, 0, 9)])
+                kind_deed = ("kind", chance.randrange(many), chance.randint(0, 1))
+                deed = chance.choice([("note",), kind_deed, ("mark", 0, 0, 9)])
                 if deed[0] == "note":
                     watch.note(shown)
                 elif deed[0] == "kind":

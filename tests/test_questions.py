@@ -4,7 +4,7 @@ import random
 import unittest
 
 from tests.runs import Run
-from tests.stories import AB, BA, three_frame, watch_state
+from tests.stories import AB, three_frame, watch_state
 from tests.worlds import small_frame
 from whensure.errors import BeginAnewFirst, InvalidShown, NotKept, TooManyPins, UnknownCommit
 from whensure.frame.frame import BEGINNING, Frame
@@ -37,7 +37,8 @@ class OrderTest(unittest.TestCase):
         words = ["before", "at once", "after"]
         for stretches, expected in [
             ([], []), ([(0, 0)], words[1:2]), ([(1, 1)], words[:1]), ([(-1, -1)], words[2:]), ([(0, 1)], words[:2]),
-            ([(-1, 0)], words[1:]), ([(-1, 1)], words), ([(-2, -1), (1, 2)], ["before", "after"]), ([(None, None)], words),
+            ([(-1, 0)], words[1:]), ([(-1, 1)], words), ([(-2, -1), (1, 2)], ["before", "after"]),
+            ([(None, None)], words),
             ([(None, -1)], words[2:]), ([(None, 0)], words[1:]), ([(1, None)], words[:1]), ([(0, None)], words[:2]),
             ([(None, -5), (7, None)], ["before", "after"]), ([(None, 1)], words), ([(-1, None)], words),
         ]:

@@ -13,8 +13,8 @@ from whensure.watch import watch as module
 from whensure.watch.watch import Watch
 
 METHODS = (
-    "note wake set_clock tell_kind mark promise hear anew send tell commit again pin unpin close_era between order miss "
-    "stamp done front log may_use may_give misses"
+    "note wake set_clock tell_kind mark promise hear anew send tell commit again pin unpin close_era between order "
+    "miss stamp done front log may_use may_give misses"
 )
 
 

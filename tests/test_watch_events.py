@@ -275,7 +275,10 @@ class ErrorsTest(unittest.TestCase):
     def test_invalid_promise(self):
         for number in [-1, 0, 2, 3]:
             self.refused(InvalidPromise, lambda watch: watch.promise([4], BA, number))
-        self.refused(InvalidPromise, lambda watch: watch.promise([4], BA, 1), 0, lambda watch: watch.promise([4], BA, 1))
+
+        def promised(watch):
+            watch.promise([4], BA, 1)
+        self.refused(InvalidPromise, promised, 0, promised)
         watch = watch_of()
         watch.hear([0], letter_to_a())
         with self.assertRaises(InvalidPromise):

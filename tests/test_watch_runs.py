@@ -3,12 +3,12 @@
 import random
 import unittest
 
-from tests.runs import Run, answers_by_view, answers_of
+from tests.runs import LivelyRun, Run, answers_by_view, answers_of, lively_frame
 from tests.worlds import small_frame
 from whensure.choices.stretches import holds_number
 from whensure.choices.told import view_between
 from whensure.errors import CannotBeHeard, InvalidRecord
-from whensure.frame.frame import BEGINNING, Frame
+from whensure.frame.frame import BEGINNING
 from whensure.knowing.deeds import is_possible
 from whensure.story.texts import read_letter
 from whensure.watch.watch import Watch
@@ -53,7 +53,7 @@ class ExactlyTest(unittest.TestCase):
     def test_also_if_more_parts_are_broken_than_can_be(self):
         without = 0
         for seed in range(100):
-            chance, run = drawn_run(seed, most_broken=3)
+            _, run = drawn_run(seed, most_broken=3)
             for _ in range(50):
                 run.step()
             for device, watch in enumerate(run.watches):
@@ -209,29 +209,6 @@ class TheSameEventsTest(unittest.TestCase):
                 if len(watch.pins) < 2 and chance.random() < 0.1:
                     watch.pin((device, number))
         return watch
-
-
-def lively_frame(chance):
-    """Return a frame whose devices have a clock and a source each, and quick links in a ring."""
-    many = chance.randint(2, 3)
-    ways = [(0, 1), (1, 0)] if many == 2 else [(0, 1), (1, 0), (1, 2), (2, 1), (2, 0), (0, 2)]
-    return Frame(
-        [f"d{at}" for at in range(many)],
-        [(f"c{at}", at, chance.random() < 0.5, (("k", 2, 3),)) for at in range(many)],
-        [(f"l{at}", *way, (("k", 0, 4),)) for at, way in enumerate(ways)],
-        [(f"s{at}", at, (("k", 1, 1),)) for at in range(many)],
-        chance.randint(0, 1),
-    )
-
-
-class LivelyRun(Run):
-    """A run with few deeds that make clocks less known."""
-
-    def deeds(self, device):
-        """Return the deeds that the device can try now."""
-        found = super().deeds(device)
-        rare = ("anew", "kind", "set", "pin", "unpin", "promise")
-        return [deed for deed in found if deed[0] not in rare or self.chance.random() < 0.1]
 
 
 class CommitsTest(unittest.TestCase):

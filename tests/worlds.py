@@ -72,6 +72,9 @@ class RunningClock:
 class World:
     """All devices of a frame on a true time, the view of all their events, and the true instants of all points."""
 
+    # How often a device that could do something falls asleep instead.
+    sleepiness = 0.2
+
     def __init__(self, frame, chance, broken=()):
         self.frame = frame
         self.chance = chance
@@ -188,7 +191,7 @@ class World:
         """Let something happen."""
         self.pass_time(self.chance.choice([0, 0, 1, 1, 2, 3, 7]))
         device = self.chance.randrange(len(self.frame.devices))
-        if not self.asleep[device] and self.chance.random() < 0.2:
+        if not self.asleep[device] and self.chance.random() < self.sleepiness:
             self.asleep[device] = self.slept[device] = True
         elif self.asleep[device] and self.chance.random() < 0.3:
             self.asleep[device] = False

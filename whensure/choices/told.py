@@ -22,9 +22,14 @@ def is_in_view(view, event):
     return 0 <= device < len(view) and 0 <= number < len(view[device])
 
 
+def check_in_view(view, events):
+    """Raise NotKept unless all of the events are in a view."""
+    if not all([is_in_view(view, event) for event in events]):
+        raise NotKept()
+
+
 def view_between(frame, view, first, second):
     """Return the list of told_between for two events of a view. Raise NotKept if one is not in the view."""
-    if not is_in_view(view, first) or not is_in_view(view, second):
-        raise NotKept()
+    check_in_view(view, [first, second])
     choices = all_choices(frame.part_count, frame.faults)
     return told_between(view_bounds(frame, view), choices, event_point(first), event_point(second))

@@ -4,8 +4,7 @@ from whensure.bounds.bounds import NO_PART, from_to_later, view_bounds
 from whensure.bounds.points import START, event_point
 from whensure.choices.choice_tables import frame_choices
 from whensure.choices.choices import bounds_left, points_named, table_of
-from whensure.choices.told import is_in_view
-from whensure.errors import NotKept
+from whensure.choices.told import check_in_view
 
 
 def view_events(view):
@@ -24,8 +23,7 @@ def find_course(frame, view, first, second, number):
 
     Return None if there is no course. Raise NotKept if an event is not in the view.
     """
-    if not is_in_view(view, first) or not is_in_view(view, second):
-        raise NotKept()
+    check_in_view(view, [first, second])
     points = view_points(frame, view)
     bounds = view_bounds(frame, view)
     bounds.extend(from_to_later(event_point(first), event_point(second), number, number, NO_PART))

@@ -1,0 +1,1 @@
+"""Trials: all devices of a frame on a given true time."""
