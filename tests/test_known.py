@@ -59,7 +59,9 @@ def busy_known():
     put(known, 0, ("send", AB, 1), ("tell", AB), ("kind", 0, 1), ("commit", 7), ("send", TOO, 0))
     put(known, 1, ("hear", AB, 1), ("send", BA, 0), ("commit", -5))
     put(known, 0, ("promise", BA, 2))
-    put(known, 2, ("note",), ("send", CB, 0))
+    put(known, 2, ("note",), ("send", CB, 0), ("tell", CB))
+    put(known, 1, ("hear", CB, 3))
+    put(known, 0, ("anew", (1,)))
     return known
 
 
@@ -87,6 +89,10 @@ class ListsTest(unittest.TestCase):
 
 
 class ForkTest(unittest.TestCase):
+    def test_it_has_all_marks(self):
+        marks = [busy_known().fork().marks(link) for link in range(5)]
+        self.assertEqual(marks, [(2, 0, 0, 0), (2, 0, 0, 8), (0, 0, 0, 0), (0, 4, 4, 0), (0, 0, 0, 0)])
+
     DEEDS = [
         (0, ("note",)), (0, ("commit", 3)), (0, ("kind", 0, 0)), (0, ("tell", TOO)), (1, ("hear", AB, 2)),
         (1, ("hear", TOO, 5)), (1, ("hear", CB, 2)), (1, ("promise", AB, 5)), (1, ("anew", (0, 1))),

@@ -72,6 +72,12 @@ def bound_in(tree):
     return names
 
 
+def defined_in(tree):
+    """Return the names that a file defines at module level, without those that it imports."""
+    names = [node.name for node in tree.body if isinstance(node, (ast.FunctionDef, ast.ClassDef))]
+    return names + [node.targets[0].id for node in tree.body if isinstance(node, ast.Assign)]
+
+
 def methods_of(tree):
     """Return the names of all methods of a file's classes."""
     return [
@@ -115,7 +121,7 @@ class LanguageTest(unittest.TestCase):
             self.assertLessEqual(node.end_lineno - node.lineno + 1, 40, where)
 
     def test_imports(self):
-        defined = {module_of(path): [name for name in bound_in(tree)] for path, tree in self.trees.items()}
+        defined = {module_of(path): defined_in(tree) for path, tree in self.trees.items()}
         imports = {module_of(path): [] for path in self.trees}
         for path, tree in self.trees.items():
             for node in tree.body:

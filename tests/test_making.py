@@ -45,6 +45,12 @@ class ChainTableTest(unittest.TestCase):
         self.assertEqual(table.chain_between(A, A), [])
         self.assertIsNone(table.chain_between(C, A))
 
+    def test_a_chain_of_the_same_sum_through_a_new_bound_does_not_replace_one(self):
+        table = ChainTable([A, B, C, D])
+        for number, bound in enumerate([(A, B, 1, 0), (C, D, 1, 0), (A, D, 4, 0), (B, C, 2, 0)]):
+            self.assertTrue(table.put_numbered(number, bound))
+        self.assertEqual((table.chain_between(A, D), table.chain_between(B, D)), ([2], [3, 1]))
+
     def test_impossible(self):
         table = ChainTable([A, B])
         self.assertTrue(table.put_numbered(0, (A, B, 2, 0)))

@@ -268,6 +268,7 @@ class PinTest(unittest.TestCase):
         watch, _ = self.noted_watch(1)
         self.assertIsNone(watch.unpin((0, 1)))
         self.assertEqual((watch.pins, watch.live), ([], [BEGINNING, (0, 2), (1, 0), (2, 0)]))
+        self.assertNotIn((0, 1, -1), watch.tables.points_kept())
         with self.assertRaises(NotKept):
             watch.between((0, 1), (0, 2))
         with self.assertRaises(NotKept):
